@@ -1,0 +1,1 @@
+"""A house of doors: the desk that makes the cards, and what the cards say."""
