@@ -31,7 +31,7 @@ def is_day_from(first, day):
     return first <= day <= MOST
 
 
-def room_has_good(room, card):
+def bears_out(room, card):
     """Whether the room's number, and for a guest its stay, bear out the card."""
     if card.kind == GUEST and room.stay is None:
         return False
@@ -46,4 +46,4 @@ def is_good(desk, card):
     # A rightly tagged card may be of a room that this desk doesn't have.
     if card.place >= len(desk.rooms):
         return False
-    return room_has_good(desk.rooms[card.place], card)
+    return bears_out(desk.rooms[card.place], card)
