@@ -155,7 +155,25 @@ def tell_whose(house, given):
     return [good, card.kind, card.place, card.number, card.last, card.serial]
 
 
-CALLS_OF_A_ROOM = (3, 4, 5, 6, 7, 8)
+def tell_stay(house, given):
+    room = house.desk.rooms[given[0]]
+    if room.stay is None:
+        return [NO_STAY]
+    return [room.stay, room.number, room.zone]
+
+
+def tell_free(house, given):
+    free = [place for place, room in enumerate(house.desk.rooms) if room.stay is None]
+    return [len(free)] + free
+
+
+def tell_desk(house, given):
+    desk = house.desk
+    stays = [room.stay for room in desk.rooms if room.stay is not None]
+    return [len(desk.rooms), len(stays), desk.day, desk.staff_round, desk.serial]
+
+
+CALLS_OF_A_ROOM = (3, 4, 5, 6, 7, 8, 13)
 
 DESK_CALLS = {
     1: add_room,
@@ -170,6 +188,9 @@ DESK_CALLS = {
     10: recall_staff,
     11: emergency_card,
     12: tell_whose,
+    13: tell_stay,
+    14: tell_free,
+    15: tell_desk,
 }
 
 

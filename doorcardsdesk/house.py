@@ -2,9 +2,11 @@
 
 from doorcardsdesk.desk import Desk
 from doorcardsdesk.deskcalls import desk_answer
+from doorcardsdesk.doorcalls import door_answer
 from doorcardsdesk.refusals import NO_HOUSE, WRONG
 
 BEGIN = 0
+FIRST_DOOR_CALL = 16
 KEY_LENGTH = 16
 
 # By a call's number: how many whole numbers are given to it, and then how many rows.
@@ -22,14 +24,28 @@ LAYOUT = (
     (0, 0),
     (1, 0),
     (0, 1),
+    (1, 0),
+    (0, 0),
+    (0, 0),
+    (1, 0),
+    (2, 0),
+    (1, 1),
+    (1, 1),
+    (2, 0),
+    (1, 0),
+    (2, 0),
+    (2, 0),
+    (1, 0),
+    (1, 0),
 )
 
 
 class House:
-    """A desk, and the last cards that it made, the last first."""
+    """A desk, the doors that were hung, and the last cards that the desk made, the last first."""
 
     def __init__(self, key):
         self.desk = Desk(key)
+        self.doors = []
         self.cards = []
 
 
@@ -86,7 +102,9 @@ def answer_to(ground, call, given):
         return begin(ground, given)
     if ground.house is None:
         return [NO_HOUSE]
-    return desk_answer(ground.house, call, given)
+    if call < FIRST_DOOR_CALL:
+        return desk_answer(ground.house, call, given)
+    return door_answer(ground.house, call, given)
 
 
 def answers(calls):

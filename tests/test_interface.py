@@ -3,14 +3,18 @@ import unittest
 
 from doorcardsdesk.house import answers
 from helper import (
-    GUEST, KEY, MOST, OTHER_KEY, TOP, ask, begin, card, come, copy, day, leave, longer, lost, made, need, parted,
-    recall, room, shut, staff, whose,
+    EMERGENCY, GUEST, KEY, MOST, OTHER_KEY, TOP, ask, begin, bolt, book, card, come, copy, day, desk, door, doorday,
+    everywhere, free, hang, kept, leave, longer, lost, made, mixed_calls, need, parted, recall, room, show, show_to,
+    shut, staff, stay, whose, would,
 )
 
 SAMPLE = [
-    room(0), begin(KEY[:15]), begin(), room(0), room(8), day(3), come(0, 9), copy(0), lost(0), longer(0, 12), leave(0),
-    shut(0), staff(5, 6), recall(), need(4), whose(card(GUEST, 0, 1, 9, 0)), whose([]), come(TOP, TOP),
-    begin(OTHER_KEY), room(7), come(0, MOST),
+    room(0), hang(0), begin(KEY[:15]), begin(), room(0), room(8), day(3), come(0, 9), copy(0), lost(0), longer(0, 12),
+    stay(0), leave(0), shut(0), staff(5, 6), recall(), need(4), whose(card(GUEST, 0, 1, 9, 0)), whose([]),
+    come(TOP, TOP), free(), desk(), hang(0), hang(0), doorday(0, 3), show_to(0, card(GUEST, 0, 9, 9, 7)),
+    would(0, card(GUEST, 0, 8, 9, 7)), show_to(0, [1] * 40), show(0, 0), show(0, 64), kept(1), kept(TOP), bolt(0, 1),
+    bolt(0, 2), book(0, 1), book(0, 2), door(0), door(1), everywhere(4), everywhere(0),
+    begin(OTHER_KEY), room(7), come(0, MOST), hang(0), show(0, 0), kept(0), door(0), book(0, 0),
 ]
 
 
@@ -18,23 +22,23 @@ def joined(calls):
     return [number for call in calls for number in call]
 
 
-def some_call(chance):
-    """A call that is as often answered as refused, in a house of few rooms and days."""
-    place = chance.choice((0, 0, 1, 1, 2, 3, TOP))
-    last = chance.choice((0, 5, 10, 20, 30, 40, MOST, MOST + 1))
-    seen = card(chance.choice((1, 1, 2, 3, 4)), chance.choice((0, 1, 255)), chance.randrange(4), last % 65536, 0)
-    return chance.choice((
-        room(chance.choice((0, 7, 8))), day(chance.choice((0, 1, 2, 4, 8, 12, 16))), come(place, last), come(place, last),
-        copy(place), lost(place), longer(place, last), leave(place), shut(place), staff(chance.randrange(258), last),
-        recall(), need(last), whose(seen), whose(seen), begin(KEY[:chance.choice((0, 3, 15))]),
-    ))
-
-
 class LayoutTest(unittest.TestCase):
     def test_each_answer_has_its_length_ahead(self):
         told = answers(joined([begin(), room(0), come(0, 5), whose(card(GUEST, 0, 1, 5, 0)), recall(), copy(9)]))
         guests = made(GUEST, 0, 1, 5, 0)
         self.assertEqual(told, [1, 0, 1, 0, 17] + guests + [6, 1, GUEST, 0, 1, 5, 0, 1, 1, 1, -2])
+
+    def test_the_doors_calls(self):
+        calls = [begin(), room(5), hang(0), come(0, 9), show(0, 0), bolt(0, 1), stay(0), free(), desk(), kept(0),
+                 door(0), book(0, 0), doorday(0, 2), everywhere(3), book(0, 1)]
+        guests = card(GUEST, 0, 1, 9, 0)
+        self.assertEqual(answers(joined(calls)), (
+            [1, 0, 1, 0, 1, 0, 17, 0] + guests + [1, 1, 1, 0, 3, 9, 1, 5, 1, 0, 5, 1, 1, 0, 0, 1, 17, 16] + guests
+            + [7, 1, 0, 5, 0, 1, 0, 1, 4, GUEST, 1, 0, 0, 1, 0, 1, 0, 1, -6]
+        ))
+
+    def test_the_longest_answer(self):
+        self.assertEqual(answers(joined([begin()] + [room(0)] * 64 + [free()]))[-66:], [65, 64] + list(range(64)))
 
     def test_one_call(self):
         self.assertEqual(answers(begin()), [1, 0])
@@ -46,6 +50,8 @@ class LayoutTest(unittest.TestCase):
             # The row's numbers would be calls if they were read as such.
             self.assertEqual(ask(begin(), whose([10] * length), recall())[1:], [[-71], [1]])
             self.assertEqual(ask(begin([10] * length), begin(), recall())[1:], [[0], [1]])
+            told = ask(begin(), room(0), hang(0), show_to(0, [10] * length), would(0, [10] * length), recall())
+            self.assertEqual(told[3:], [[-71], [-71], [1]])
 
     def test_plain_whole_numbers_in_a_plain_list(self):
         told = answers(joined(SAMPLE))
@@ -90,18 +96,21 @@ class RefusedTest(unittest.TestCase):
     def test_without_the_refused_calls_the_others_answer_the_same(self):
         chance = random.Random(20)
         refused, answered = set(), set()
-        for time in range(60):
-            calls = [begin(), room(0), room(3)] + [some_call(chance) for n in range(120)]
+        for time in range(120):
+            calls = mixed_calls(chance, 150)
             told = ask(*calls)
-            kept = [call for call, part in zip(calls, told) if part[0] >= 0]
-            self.assertEqual(ask(*kept), [part for part in told if part[0] >= 0])
+            left = [(call, part) for call, part in zip(calls, told) if part[0] >= 0]
+            self.assertEqual(ask(*[call for call, part in left]), [part for call, part in left])
             refused.update((call[0], part[0]) for call, part in zip(calls, told) if part[0] < 0)
-            answered.update(call[0] for call in kept)
+            answered.update(call[0] for call, part in left)
         # A sample that never meets these would show nothing.
-        self.assertEqual(answered, set(range(13)))
+        self.assertEqual(answered, set(range(26)))
         self.assertLessEqual({
-            (0, -22), (1, -22), (2, -22), (3, -2), (3, -22), (3, -15), (4, -2), (4, -6), (5, -2), (5, -6), (6, -2),
-            (6, -6), (6, -22), (7, -2), (7, -6), (8, -2), (8, -15), (9, -22), (11, -22), (12, -71),
+            (1, -22), (2, -22), (3, -2), (3, -22), (3, -15), (4, -2), (4, -6), (5, -2), (5, -6), (6, -2), (6, -6),
+            (6, -22), (7, -2), (7, -6), (8, -2), (8, -15), (9, -22), (11, -22), (12, -71), (13, -2), (13, -6),
+            (16, -2), (16, -17), (17, -2), (17, -22), (18, -2), (18, -71), (18, -13), (18, -34), (18, -17), (18, -15),
+            (19, -2), (19, -71), (19, -13), (19, -34), (19, -17), (19, -15), (20, -2), (20, -6), (20, -13), (20, -34),
+            (20, -17), (20, -15), (21, -6), (22, -2), (22, -22), (23, -2), (23, -6), (24, -2), (25, -22),
         }, refused)
 
 
@@ -116,6 +125,31 @@ class LongTest(unittest.TestCase):
         self.assertEqual(answers([10] * 5000), [1, -61] * 5000)
         told = ask(begin(), *[recall()] * 4999)
         self.assertEqual(told[-1], [4999])
+
+    def test_5000_calls_with_doors_among_them(self):
+        rooms = [room(n % 8) for n in range(16)]
+        calls = [begin()] + rooms + [hang(n) for n in range(16)] + [come(n, MOST) for n in range(16)]
+        start = len(calls)
+        for n in range(1236):
+            calls += [lost(n % 16), show(n % 16, 0), show(n % 16, 16), door(n % 16)]
+        calls += [free(), desk(), book(0, 15), kept(63), everywhere(MOST), need(MOST), show(15, 0)]
+        self.assertEqual(len(calls), 5000)
+        self.assertLessEqual(len(joined(calls)), 30000)
+        told = ask(*calls)
+        for n in range(1236):
+            at, number = n % 16, n // 16 + 2
+            self.assertEqual(told[start + 4 * n:start + 4 * n + 4], [
+                made(GUEST, at, number, MOST, 16 + n), [1], [-17], [0, at, at % 8, 0, number, 0, min(number - 1, 16)],
+            ])
+        self.assertEqual(told[-7:], [
+            [0], [16, 16, 0, 0, 1252], [GUEST, 64, 16 + 62 * 16, 0], [16] + card(GUEST, 1188 % 16, 75, MOST, 1188), [0],
+            made(EMERGENCY, 255, 0, MOST, 1252), [4],
+        ])
+
+    def test_5000_mixed_calls(self):
+        calls = mixed_calls(random.Random(5), 4994)
+        self.assertLessEqual(len(joined(calls)), 30000)
+        self.assertEqual(len(ask(*calls)), 5000)
 
     def test_30000_numbers(self):
         calls = [begin(), room(1), come(0, 9)] + [whose(card(GUEST, 0, 1, 9, n)) for n in range(1664)]

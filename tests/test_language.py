@@ -36,6 +36,12 @@ WORDS_NOWHERE = re.compile(
     r"|NamedTuple|TypedDict|TYPE_CHECKING|abstractmethod)\b|dataclass|overload|contextmanager"
 )
 
+WALKED_AT_ONCE = {"range", "enumerate", "zip", "reversed", "items", "keys", "values"}
+WALKING = {"list", "tuple", "dict", "sorted", "sum", "any", "all", "enumerate", "zip", "min", "max"}
+
+# What an object's value may be called though Python's own values have a method of that name.
+VALUES_TOO = {"count", "index", "title", "find", "get", "join", "lower", "upper", "split", "strip", "copy", "add"}
+
 NAMES_NOWHERE = {"register", "mro", "elements", "open", "input", "version_info", "with_traceback", "add_note"}
 
 
@@ -156,6 +162,55 @@ class LanguageTest(unittest.TestCase):
                     called.add(node.func.attr)
         self.assertEqual(methods & values, set())
         self.assertLessEqual(called, methods | METHODS_OF_PYTHON)
+        of_python = {name for kind in (str, int, list, dict, set, bytes, tuple) for name in dir(kind)}
+        self.assertLessEqual(values & of_python, VALUES_TOO)
+        self.assertLessEqual(methods & of_python, METHODS_OF_PYTHON | {"__init__", "add", "discard"})
+
+    def test_no_local_is_called_like_a_class_or_an_import(self):
+        for tree in self.each_tree():
+            taken = {node.name for node in tree.body if isinstance(node, ast.ClassDef)}
+            for node in tree.body:
+                if isinstance(node, ast.ImportFrom):
+                    taken.update(each.name for each in node.names)
+            for top in tree.body:
+                if isinstance(top, (ast.FunctionDef, ast.ClassDef)):
+                    for node in ast.walk(top):
+                        if isinstance(node, (ast.arg, ast.Name)):
+                            self.assertEqual(taken & set(self.names_given_by(node)), set())
+
+    def test_walked_on_the_spot(self):
+        for tree in self.each_tree():
+            fine = []
+            for node in ast.walk(tree):
+                if isinstance(node, (ast.For, ast.comprehension)):
+                    fine.append(node.iter)
+                if isinstance(node, ast.Call) and getattr(node.func, "id", None) in WALKING:
+                    fine.extend(node.args)
+            for node in ast.walk(tree):
+                if isinstance(node, ast.Call):
+                    name = getattr(node.func, "id", getattr(node.func, "attr", None))
+                    if name in WALKED_AT_ONCE:
+                        self.assertIn(node, fine, ast.unparse(node))
+
+    def test_functions_of_python_are_called_and_not_kept(self):
+        for tree in self.each_tree():
+            called = [node.func for node in ast.walk(tree) if isinstance(node, ast.Call)]
+            for node in ast.walk(tree):
+                if isinstance(node, ast.Name) and node.id in OWN_OF_PYTHON:
+                    self.assertIn(node, called, node.id)
+
+    def test_imports_name_what_their_file_defines(self):
+        defined = {}
+        for path in sources():
+            tree = ast.parse(path.read_text("utf-8"))
+            names = {node.name for node in tree.body if isinstance(node, (ast.FunctionDef, ast.ClassDef))}
+            names.update(node.targets[0].id for node in tree.body if isinstance(node, ast.Assign))
+            defined["doorcardsdesk." + path.stem] = names
+        for tree in self.each_tree():
+            for node in tree.body:
+                if isinstance(node, ast.ImportFrom):
+                    self.assertLessEqual({each.name for each in node.names}, defined[node.module])
+                    self.assertEqual([each.asname for each in node.names], [None] * len(node.names))
 
     def test_nothing_is_kept_at_a_files_top(self):
         for tree in self.each_tree():

@@ -3,10 +3,12 @@
 import unittest
 
 from doorcardsdesk.deskcalls import desk_answer
+from doorcardsdesk.doorcalls import door_answer
 from doorcardsdesk.house import House
 from helper import EMERGENCY, GUEST, KEY, MOST, SHUTTING, STAFF, TOP, card, made
 
 COME, COPY, LOST, LONGER, LEAVE, SHUT, STAFFS, RECALL, NEED = range(3, 12)
+HANG, OPEN, SHOW, CARD, DOOR, ALL = 16, 18, 20, 21, 24, 25
 
 
 def house_with(serial=0, number=0, staff_round=0):
@@ -70,6 +72,11 @@ class LimitsTest(unittest.TestCase):
         self.assertEqual(desk_answer(house, 1, [0]), [2])
         self.assertEqual(desk_answer(house, 2, [11]), [0])
         self.assertEqual(desk_answer(house, 12, [card(3, 0, MOST, 11, 5)]), [1, 3, 0, MOST, 11, 5])
+        self.assertEqual(desk_answer(house, 15, []), [3, 0, 11, 1, MOST])
+        self.assertEqual(door_answer(house, HANG, [1]), [0])
+        self.assertEqual(door_answer(house, OPEN, [0, card(1, 1, MOST, 11, 5)]), [1])
+        self.assertEqual(door_answer(house, DOOR, [0]), [0, 1, 7, 0, MOST, 0, 1])
+        self.assertEqual(door_answer(house, ALL, [12]), [0])
 
     def test_a_rooms_last_number(self):
         for call, given, said in (
@@ -81,6 +88,16 @@ class LimitsTest(unittest.TestCase):
             self.assertEqual(desk_answer(house, call, given), made(*said, 0))
             self.assertEqual(house.desk.rooms[given[0]].number, MOST)
             self.check_refused(-28, house_with(number=MOST), call, given)
+
+    def test_the_last_card_at_a_door(self):
+        house = house_with(serial=MOST - 1, number=MOST - 1)
+        door_answer(house, HANG, [0])
+        desk_answer(house, LOST, [0])
+        self.assertEqual(door_answer(house, SHOW, [0, 0]), [1])
+        self.assertEqual(door_answer(house, CARD, [0]), [16] + card(GUEST, 0, MOST, 20, MOST - 1))
+        self.assertEqual(door_answer(house, DOOR, [0]), [0, 0, 0, 0, MOST, 0, 1])
+        self.check_refused(-28, house, COPY, [0])
+        self.assertEqual(door_answer(house, CARD, [0]), [16] + card(GUEST, 0, MOST, 20, MOST - 1))
 
     def test_copy_and_longer_need_no_new_number(self):
         house = house_with(number=MOST)
@@ -121,6 +138,9 @@ class KeptCardsTest(unittest.TestCase):
     def test_what_is_answered_is_not_what_is_kept(self):
         house = house_with()
         told = desk_answer(house, COPY, [0])
+        told[1] = 99
+        self.assertEqual(house.cards, [card(GUEST, 0, 0, 20, 0)])
+        told = door_answer(house, CARD, [0])
         told[1] = 99
         self.assertEqual(house.cards, [card(GUEST, 0, 0, 20, 0)])
 
